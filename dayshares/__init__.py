@@ -1,0 +1,1 @@
+"""Dayshares: standing orders paid by share of days."""

@@ -37,7 +37,8 @@ class TestMonths(unittest.TestCase):
     def test_lengths_from_28_to_31(self):
         for length in (28, 29, 30, 31):
             same(self, len(Months((length,))), length)
-        for length in (27, 32, 0, -28, 1, 280, BIG, -BIG, None, True, False, "28", (28,), [28], {28: 28}, Months((28,))):
+        for length in (27, 32, 0, -28, 1, 280, BIG, -BIG, None, True, False, "28", (28,), [28], {28: 28},
+                       Months((28,))):
             refused(self, "NoMonths", Months, [(length,), (length, 30), (30, length), (30, length, 30)])
 
     def test_what_is_no_months(self):

@@ -46,17 +46,23 @@ class Months:
         """Tells the day's share of what its month costs."""
         if not is_pence(pence):
             raise NoPence("pence are a whole number from 0 on")
-        month, place = self.place_of(day)
-        length = self.lengths[month]
-        # The difference of two sums that are rounded, so that the shares of a month lose nothing together.
-        return pence * (place + 1) // length - pence * place // length
+        self.place_of(day)
+        return self.paid_ahead(pence, day + 1) - self.paid_ahead(pence, day)
 
     def shares(self, pence, first=0, behind=None):
         """Tells the sum of the shares of all days from first on, ahead of behind."""
         if not is_pence(pence):
             raise NoPence("pence are a whole number from 0 on")
         start, stop = self.stretch_of(first, behind)
-        return sum([self.share(pence, day) for day in range(start, stop)])
+        return self.paid_ahead(pence, stop) - self.paid_ahead(pence, start)
+
+    def paid_ahead(self, pence, day):
+        """Tells what all days ahead of a day come to; it may be the first one behind all days."""
+        # Shares are differences of these sums, which alone are rounded: so no stretch of days loses anything.
+        if day == len(self.places):
+            return pence * len(self.lengths)
+        month, place = self.places[day]
+        return pence * month + pence * place // self.lengths[month]
 
     def __len__(self):
         return len(self.places)

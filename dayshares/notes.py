@@ -30,6 +30,11 @@ def are_notes(thing):
 def fates(notes):
     """Tells the list of what became of each note: "takes" or its reason."""
     _need_notes(notes)
+    return read_all(notes)
+
+
+def read_all(notes):
+    """Tells the list of what became of each note, as fates, of what are known to be notes."""
     standing = Standing()
     told = []
     for note in notes:
@@ -83,6 +88,14 @@ class Standing:
     def is_over(self):
         """Tells whether it is over on the day on which it stands."""
         return self.ended or (self.term > 0 and self.ran >= self.term)
+
+    def stands_to(self, day):
+        """Tells up to which day, this one at the most, it stands so where no note is read any more."""
+        if self.begun is None or self.is_over():
+            return self.day
+        if self.paused or self.term == 0:
+            return day
+        return min(day, self.day + self.term - self.ran)
 
     def fate_of(self, note):
         """Tells "takes", or the first reason for which the note doesn't."""

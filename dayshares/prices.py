@@ -17,6 +17,8 @@ class Prices:
             raise NoPrices("price notes are a rising tuple of none to twelve (day, kind, pence, word)")
         self.kinds = kinds
         self.notes = changes
+        self.own = {row[0]: row[1:] for row in kinds}
+        self.changes = {row[0]: [note for note in changes if note[1] == row[0]] for row in kinds}
 
     def has_kind(self, kind):
         """Tells whether the name is one of the kinds."""
@@ -58,20 +60,23 @@ class Prices:
 
     def priced(self, kind, day, begun, ran):
         """Tells (pence, rule) as price_of, of what is known to be right."""
-        pence, free = self.row_of(kind)
+        pence, free = self.own[kind]
         if ran < free:
             return (0, "free")
         told = (pence, "list")
         # The notes rise, so that the last one that bears is left.
-        for note in self.notes:
-            if note[1] == kind and _bears(note, day, begun):
+        for note in self.changes[kind]:
+            if _bears(note, day, begun):
                 told = (note[2], note[3])
         return told
 
-    def row_of(self, kind):
-        """Tells (pence, free) of one of the kinds, as they are without price notes."""
-        at = _names_of(self.kinds).index(kind)
-        return self.kinds[at][1:]
+    def free_of(self, kind):
+        """Tells how many first days of one of the kinds are free."""
+        return self.own[kind][1]
+
+    def days_of(self, kind, word):
+        """Tells the rising list of the days of one kind's price notes of this word."""
+        return [note[0] for note in self.changes[kind] if note[3] == word]
 
     def __len__(self):
         return len(self.kinds)
@@ -115,7 +120,7 @@ def _partings_on(one, other, day, begun):
 def _telling_runs(one, other, kind):
     # Pence hang on ran only by whether it is less than the kind's free days, and where it is less
     # than both they are alike: so the least ran at which they part is one of these two.
-    return [one.row_of(kind)[1], other.row_of(kind)[1]]
+    return [one.free_of(kind), other.free_of(kind)]
 
 
 def _pence_part(one, other, kind, day, begun, ran):

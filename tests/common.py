@@ -2,7 +2,9 @@
 
 from dayshares import errors
 from dayshares.months import Months
+from dayshares.orders import Order
 from dayshares.prices import Prices
+from dayshares.sheets import Sheet
 
 FAMILIES = {
     "NoNote": "NoteError", "NoNotes": "NoteError", "Leans": "NoteError",
@@ -15,6 +17,7 @@ BIG = 10 ** 30 - 1
 
 def anything():
     """Things of every kind that point 0.2 tells, made anew."""
+    order = Order(Months((28,)), Prices((("a", 1, 0),)), ((0, "begins", "a", "a", 0),))
     return [
         None, True, False,
         -BIG, -31, -1, 0, 1, 2, 5, 27, 28, 30, 31, 32, 60, 61, 371, 372, 400, 401, BIG,
@@ -26,7 +29,8 @@ def anything():
         [0, "a", 1, "all"], [(0, "a", 1, "all")], [[[[[[]]]]]],
         {}, {0: 0}, {"a": 1}, {28: 28}, {(): []}, {0: (0, "ends")},
         Months((28,)), Months((31, 30)), Prices((("a", 1, 0),)), Prices((("a", 1, 0),), ((0, "a", 1, "all"),)),
-        errors.NoDay("a day"), errors.TooMany(13, 12),
+        order, Order(Months((31, 30)), Prices((("a", 1, 0),))), Sheet((("a", order),), 0), (("a", order),),
+        [("a", order)], {"a": order}, errors.NoDay("a day"), errors.TooMany(13, 12),
     ]
 
 

@@ -2,9 +2,11 @@
 
 import unittest
 
-from dayshares import months, notes, prices
+from dayshares import late, months, notes, orders, prices, sheets, ways
 from dayshares.months import Months
+from dayshares.orders import Order
 from dayshares.prices import Prices, first_parting
+from dayshares.sheets import Sheet
 from tests.common import same
 
 KINDS = (("a", 310, 0), ("b", 620, 2))
@@ -14,13 +16,16 @@ NOTES = ((1, "begins", "a", "ann", 0), (4, "changes", "b"))
 
 class TestPlaces(unittest.TestCase):
     def test_functions_are_defined_in_their_files(self):
-        for module, name in ((prices, "first_parting"), (notes, "is_note"), (notes, "are_notes"), (notes, "fates"),
-                             (notes, "day_of")):
-            told = getattr(module, name)
-            self.assertEqual((told.__module__, told.__name__), (module.__name__, name))
+        for module, names in (
+                (prices, ("first_parting",)), (notes, ("is_note", "are_notes", "fates", "day_of")),
+                (late, ("with_note", "without_note", "turned_by", "moved", "leaners", "free_notes", "struck_out")),
+                (ways, ("way_of", "cheapest_way", "marks_hold", "marks_of"))):
+            for name in names:
+                told = getattr(module, name)
+                self.assertEqual((told.__module__, told.__name__), (module.__name__, name))
 
     def test_classes_are_defined_in_their_files(self):
-        for module, name in ((months, "Months"), (prices, "Prices")):
+        for module, name in ((months, "Months"), (prices, "Prices"), (orders, "Order"), (sheets, "Sheet")):
             told = getattr(module, name)
             self.assertEqual((told.__module__, told.__name__), (module.__name__, name))
 
@@ -29,7 +34,11 @@ class TestPlaces(unittest.TestCase):
                 (Months, ("all_lengths", "place_of", "span_of", "share", "shares",
                           "__len__", "__eq__", "__repr__", "__str__")),
                 (Prices, ("has_kind", "all_kinds", "all_notes", "with_price", "price_of",
-                          "__len__", "__eq__", "__repr__", "__str__"))):
+                          "__len__", "__eq__", "__repr__", "__str__")),
+                (Order, ("paid_on", "lines_of", "sum_of", "lines_hold", "months_of", "prices_of", "notes_of",
+                         "__len__", "__eq__", "__repr__", "__str__")),
+                (Sheet, ("lines_now", "sums", "total", "known_by", "settled", "next_sheet",
+                         "__len__", "__eq__", "__repr__", "__str__"))):
             for name in names:
                 self.assertIn(name, vars(told))
 
@@ -76,6 +85,60 @@ class TestByName(unittest.TestCase):
         same(self, notes.fates(notes=NOTES), ["takes", "takes"])
         same(self, notes.day_of(notes=NOTES, day=4), ("ann", "b", False, 3))
         same(self, notes.day_of(day=4, notes=NOTES), ("ann", "b", False, 3))
+
+    def test_orders(self):
+        made = Order(months=Months((28, 31)), prices=Prices(KINDS), notes=NOTES)
+        self.assertEqual(made, Order(Months((28, 31)), Prices(KINDS), NOTES))
+        self.assertEqual(Order(notes=NOTES, prices=Prices(KINDS), months=Months((28, 31))), made)
+        same(self, Order(prices=Prices(KINDS), months=Months((28, 31))).notes_of(), ())
+        same(self, made.paid_on(day=1), ("ann", "a", 11, "list"))
+        due = [(30, 31, "ann", "b", "list", 20)]
+        same(self, made.lines_of(first=30, behind=31), due)
+        same(self, made.lines_of(behind=31, first=30), due)
+        same(self, made.lines_of(30, behind=31), due)
+        same(self, made.lines_of(behind=2), [(1, 2, "ann", "a", "list", 11)])
+        same(self, made.sum_of(first=30, behind=31, holder="ann"), 20)
+        same(self, made.sum_of(holder="bob", behind=31, first=30), 0)
+        same(self, made.sum_of(holder="ann", first=30, behind=31), 20)
+        same(self, made.lines_hold(thing=due, first=30, behind=31), True)
+        same(self, made.lines_hold(behind=31, first=30, thing=due), True)
+        same(self, made.lines_hold(due, behind=31, first=30), True)
+        same(self, made.lines_hold(thing=due), False)
+
+    def test_sheets(self):
+        rows = (("one", Order(Months((28, 31)), Prices(KINDS), NOTES)),)
+        made = Sheet(orders=rows, month=0)
+        self.assertEqual(Sheet(month=0, orders=rows), made)
+        self.assertEqual(Sheet(rows, 0), made)
+        same(self, made.known_by(day=1).lines_now(), [("ann", "one", 1, 28, "a", "list", 299)])
+        same(self, made.settled(other=made.known_by(day=0)), [("ann", -made.total())])
+
+    def test_late(self):
+        made, note = Order(Months((28, 31)), Prices(KINDS), NOTES), (30, "ends")
+        other = late.with_note(order=made, note=note)
+        self.assertEqual(late.with_note(note=note, order=made), other)
+        self.assertEqual(late.without_note(order=other, note=note), made)
+        self.assertEqual(late.without_note(note=note, order=other), made)
+        self.assertEqual(late.struck_out(order=other, note=note), made)
+        self.assertEqual(late.struck_out(note=note, order=other), made)
+        same(self, late.turned_by(order=made, other=other)[0], (30, ("ann", "b", 20, "list"), None))
+        same(self, late.turned_by(other=made, order=other)[0], (30, None, ("ann", "b", 20, "list")))
+        same(self, late.moved(order=made, other=other), [("ann", 1, -580)])
+        same(self, late.moved(other=made, order=other), [("ann", 1, 580)])
+        same(self, late.leaners(order=other, note=NOTES[0]), (NOTES[1], note))
+        same(self, late.leaners(note=note, order=other), ())
+        same(self, late.free_notes(order=other), (NOTES[1], note))
+
+    def test_ways(self):
+        steps = (("a", "b", 3), ("b", "c", 4))
+        same(self, ways.way_of(steps=steps, kind="a", thing=(0, 1)), ("c", 7))
+        same(self, ways.way_of(thing=(1,), kind="b", steps=steps), ("c", 4))
+        same(self, ways.cheapest_way(steps=steps, kind="a", wished="c"), (7, (0, 1)))
+        same(self, ways.cheapest_way(wished="a", kind="c", steps=steps), None)
+        same(self, ways.marks_hold(steps=steps, kind="b", thing={"b": 0, "c": 4}), True)
+        same(self, ways.marks_hold(thing={"b": 0}, kind="b", steps=steps), False)
+        self.assertEqual(ways.marks_of(steps=steps, kind="b"), {"b": 0, "c": 4})
+        self.assertEqual(ways.marks_of(kind="c", steps=steps), {"c": 0})
 
 
 if __name__ == "__main__":

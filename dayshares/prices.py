@@ -99,28 +99,29 @@ def first_parting(one, other, last=30):
         raise NoDay("the last day is a whole number from 0 to 60")
     if one.all_kinds() != other.all_kinds():
         raise NoKind("the kinds have unlike names")
-    for day in range(last + 1):
-        for begun in range(day + 1):
-            partings = _partings_on(one, other, day, begun)
-            if len(partings) > 0:
-                ran, kind = min(partings)
-                return (day, begun, ran, kind)
-    return None
-
-
-def _partings_on(one, other, day, begun):
     found = []
     for kind in one.all_kinds():
-        for ran in _telling_runs(one, other, kind):
-            if ran <= day - begun and _pence_part(one, other, kind, day, begun, ran):
-                found.append((ran, kind))
+        found.extend(_partings_of(one, other, kind, last))
+    return min(found, default=None)
+
+
+def _partings_of(one, other, kind, last):
+    """Tells partings of one kind, its least one among them, where it has any."""
+    # From one day begun to the next pence turn with notes of "new" alone: so the least tuple has a day of
+    # such a note, or 0. On ran they hang only by whether it is less than the free days, and where it is
+    # less than those of both books they are alike: so it has the free days of the one or of the other.
+    starts = sorted(set([0, *one.days_of(kind, "new"), *other.days_of(kind, "new")]))
+    runs = sorted(set([one.free_of(kind), other.free_of(kind)]))
+    turns = sorted([*one.days_of(kind, "all"), *other.days_of(kind, "all")])
+    found = []
+    for begun in starts:
+        for ran in runs:
+            # The first day by which it can have run so long; from then on notes of "all" alone turn pence.
+            first = begun + ran
+            for day in [first, *[turn for turn in turns if turn > first]]:
+                if day <= last and _pence_part(one, other, kind, day, begun, ran):
+                    found.append((day, begun, ran, kind))
     return found
-
-
-def _telling_runs(one, other, kind):
-    # Pence hang on ran only by whether it is less than the kind's free days, and where it is less
-    # than both they are alike: so the least ran at which they part is one of these two.
-    return [one.free_of(kind), other.free_of(kind)]
 
 
 def _pence_part(one, other, kind, day, begun, ran):

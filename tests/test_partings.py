@@ -1,11 +1,15 @@
 """Point 2.4: the first parting of two prices."""
 
+import random
+import time
 import unittest
 
 from dayshares.prices import Prices, first_parting
 from tests.common import BIG, refusal, refused, same, within, wrong_things
 
 KINDS = (("a", 100, 0), ("b", 200, 0))
+SIX = (("a", 5, 0), ("b", 7, 31), ("c", 1, 1), ("d", 4, 2), ("e", 9, 5), ("f", 8, 7))
+TWELVE = tuple((k, "abcdef"[k % 6], k, "new") for k in range(12))
 
 
 def due_parting(one, other, last):
@@ -18,6 +22,32 @@ def due_parting(one, other, last):
                     if told != other.price_of(kind, day, begun, ran)[0]:
                         return (day, begun, ran, kind)
     return None
+
+
+def drawn_book(draw, names, frees, top):
+    """Gives kinds and price notes of few pence, so that many of them are alike."""
+    kinds = tuple((kind, draw.choice([0, 5, 6]), draw.choice(frees)) for kind in names)
+    notes = {}
+    for _ in range(draw.choice([0, 1, 2, 4, 7])):
+        note = (draw.randint(0, top), draw.choice(names), draw.choice([0, 5, 5, 6]), draw.choice(["all", "new"]))
+        notes[note[:2]] = note
+    return kinds, tuple(sorted(notes.values()))
+
+
+def turned_book(draw, book, frees, top):
+    """Gives the kinds and price notes of a book but for some free days, or a note or two."""
+    kinds, notes = [list(row) for row in book[0]], list(book[1])
+    if draw.random() < 0.5:
+        draw.choice(kinds)[2] = draw.choice(frees)
+    if notes and draw.random() < 0.6:
+        at = draw.randrange(len(notes))
+        day, kind, told, _ = notes[at]
+        notes[at] = (day, kind, draw.choice([told, 6]), draw.choice(["all", "new"]))
+    if draw.random() < 0.5:
+        note = (draw.randint(0, top), draw.choice(kinds)[0], draw.choice([0, 5, 6]), draw.choice(["all", "new"]))
+        if note[:2] not in [there[:2] for there in notes]:
+            notes.append(note)
+    return tuple(tuple(row) for row in kinds), tuple(sorted(notes))
 
 
 class TestFirstParting(unittest.TestCase):
@@ -43,6 +73,98 @@ class TestFirstParting(unittest.TestCase):
         for one in books:
             for other in books:
                 same(self, first_parting(one, other, 4), due_parting(one, other, 4))
+
+    def test_draws_against_each_question(self):
+        draw = random.Random(24)
+        for _ in range(250):
+            names, frees, top = draw.choice(["a", "ab", "abc"]), draw.choice([[0], [0, 1, 4], [2, 3, 9]]), 14
+            one = drawn_book(draw, names, frees, top)
+            other = draw.choice([drawn_book(draw, names, frees, top), turned_book(draw, one, frees, top)])
+            one, other, last = Prices(*one), Prices(*other), draw.choice([0, 3, 8, 12, 20])
+            self.parts(one, other, last, due_parting(one, other, last))
+
+    def test_draws_that_part_late(self):
+        draw = random.Random(25)
+        for _ in range(25):
+            one = drawn_book(draw, "ab", [0, 11, 31], 60)
+            other = turned_book(draw, turned_book(draw, one, [0, 11, 31], 60), [0, 11, 31], 60)
+            one, other, last = Prices(*one), Prices(*other), draw.choice([31, 45])
+            self.parts(one, other, last, due_parting(one, other, last))
+
+    def test_late_days(self):
+        for day in range(31, 61):
+            self.parts(Prices(KINDS, ((day, "b", 1, "all"),)), Prices(KINDS), 60, (day, 0, 0, "b"))
+            self.parts(Prices(KINDS, ((day, "a", 1, "new"),)), Prices(KINDS), 60, (day, day, 0, "a"))
+            self.parts(Prices(KINDS, ((day, "a", 1, "new"),)), Prices(KINDS), day - 1, None)
+        one = Prices(SIX, TWELVE[:11])
+        for day, word, begun in ((40, "all", 0), (59, "all", 0), (60, "new", 60)):
+            other = one.with_price((day, "a", 1, word))
+            self.parts(one, other, 60, (day, begun, 0, "a"))
+            self.parts(one, other, day - 1, None)
+
+    def test_a_begun_day_that_is_neither_0_nor_the_day(self):
+        # Orders that began on 4 or later part only behind their free days.
+        for free in (1, 5, 31):
+            one = Prices((("a", 5, free),))
+            other = Prices((("a", 5, free),), ((4, "a", 6, "new"),))
+            self.parts(one, other, 60, (4 + free, 4, free, "a"))
+            self.parts(one, other, 3 + free, None)
+        # Those that began ahead of the note, and those behind the next one, never part.
+        one = Prices((("a", 5, 0),), ((9, "a", 6, "new"), (40, "a", 5, "all")))
+        other = Prices((("a", 5, 0),), ((9, "a", 6, "new"), (12, "a", 6, "new"), (40, "a", 5, "new")))
+        self.parts(one, other, 60, (40, 9, 0, "a"))
+        self.parts(one, other, 39, None)
+
+    def test_ran_of_the_one_or_of_the_other(self):
+        self.parts(Prices((("a", 5, 3),)), Prices((("a", 5, 9),)), 60, (3, 0, 3, "a"))
+        # Orders that began on 20 or later part while they are free by the other book alone.
+        one = Prices((("a", 0, 3),), ((20, "a", 5, "new"),))
+        other = Prices((("a", 0, 9),), ((20, "a", 6, "new"),))
+        self.parts(one, other, 60, (23, 20, 3, "a"))
+        # Where the one tells 0 anyway, they part behind the free days of the other.
+        one, other = Prices((("a", 0, 3),)), Prices((("a", 5, 9),))
+        self.parts(one, other, 60, (9, 0, 9, "a"))
+        self.parts(one, other, 8, None)
+        one = Prices((("a", 0, 3),), ((20, "a", 0, "new"),))
+        other = Prices((("a", 0, 9),), ((20, "a", 6, "new"),))
+        self.parts(one, other, 60, (29, 20, 9, "a"))
+        self.parts(one, other, 28, None)
+
+    def test_notes_of_new_and_all_on_one_day_of_unlike_kinds(self):
+        one = Prices((("a", 5, 0), ("b", 5, 2)))
+        for word, due in (("all", (7, 0, 0, "a")), ("new", (7, 0, 2, "b"))):
+            other = Prices((("a", 5, 0), ("b", 5, 2)),
+                           ((7, "a", 6, word), (7, "b", 6, "new" if word == "all" else "all")))
+            self.parts(one, other, 60, due)
+            self.parts(one, other, 6, None)
+        one = Prices((("a", 5, 7), ("b", 5, 0)))
+        other = Prices((("a", 5, 7), ("b", 5, 0)), ((7, "a", 6, "all"), (7, "b", 6, "new")))
+        self.parts(one, other, 60, (7, 0, 7, "a"))
+        other = Prices((("a", 5, 7), ("b", 5, 0)), ((6, "a", 6, "all"), (6, "b", 6, "new")))
+        self.parts(one, other, 60, (6, 6, 0, "b"))
+        other = Prices((("a", 5, 7), ("b", 5, 0)), ((6, "a", 6, "all"), (8, "b", 6, "all")))
+        self.parts(one, other, 60, (7, 0, 7, "a"))
+
+    def test_how_long_it_takes_where_none_parts(self):
+        book = Prices(SIX, TWELVE)
+        took = []
+        for _ in range(5):
+            begun = time.perf_counter()
+            same(self, first_parting(book, book, 60), None)
+            took.append(time.perf_counter() - begun)
+        # The least of several, since the machine may be busy with other things.
+        self.assertLess(min(took), 0.005)
+
+    def test_how_long_it_takes_where_many_notes_part_late(self):
+        one = Prices((("a", 5, 30), ("b", 0, 0)), tuple((k, "a", 5, "new") for k in range(0, 24, 2)))
+        other = Prices((("a", 5, 30), ("b", 0, 0)), tuple((k, "a", 5, "all") for k in range(1, 23, 2)) + (
+            (60, "b", 1, "new"),))
+        took = []
+        for _ in range(5):
+            begun = time.perf_counter()
+            same(self, first_parting(one, other, 60), (60, 60, 0, "b"))
+            took.append(time.perf_counter() - begun)
+        self.assertLess(min(took), 0.005)
 
     def test_alike(self):
         made = Prices(KINDS, ((3, "a", 50, "new"),))

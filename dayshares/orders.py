@@ -95,14 +95,14 @@ class Order:
         return f"Order({len(self.notes)} notes, {len(self.running_days())} days)"
 
     def __str__(self):
-        return shown(self.lines_of())
+        return "\n".join(texts_of(self.lines_of()))
 
 
-def shown(lines):
-    """Tells the text of lines: their things with a blank between, a line feed between two lines."""
+def texts_of(lines):
+    """Tells the list of the texts of lines, of each its things with a blank between; of no lines that of none."""
     if len(lines) == 0:
-        return "none"
-    return "\n".join([" ".join([str(thing) for thing in line]) for line in lines])
+        return ["none"]
+    return [" ".join([str(thing) for thing in line]) for line in lines]
 
 
 def tally(rows):

@@ -2,7 +2,7 @@
 
 from dayshares.checks import is_name, is_rising, is_tuple_of
 from dayshares.errors import NoSheet
-from dayshares.orders import Order, gains, shown, tally
+from dayshares.orders import Order, gains, tally, texts_of
 
 
 class Sheet:
@@ -62,7 +62,7 @@ class Sheet:
         return f"Sheet(month {self.month}, {len(self.lines)} lines)"
 
     def __str__(self):
-        return shown(self.lines)
+        return "\n".join(texts_of(self.lines))
 
 
 def _are_orders(thing):

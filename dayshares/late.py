@@ -26,9 +26,15 @@ def without_note(order, note):
 def turned_by(order, other):
     """Tells the rising list of (day, before, after) of the days that the other order pays otherwise."""
     _need_like_months(order, other)
-    before = order.paid_days()
-    after = other.paid_days()
-    return [(day, before[day], after[day]) for day in range(len(before)) if before[day] != after[day]]
+    months = order.months_of()
+    turned = []
+    for first, behind, one, two in _side_by_side(order, other):
+        # Days of one month that both tell alike, their price too, have like shares.
+        if one != two:
+            before = _paid(months, one, first, behind)
+            after = _paid(months, two, first, behind)
+            turned.extend([row for row in zip(range(first, behind), before, after) if row[1] != row[2]])
+    return turned
 
 
 def moved(order, other):
@@ -80,6 +86,38 @@ def _taking(notes):
 def _leaners_among(notes, note):
     still = _taking(_others(notes, note))
     return tuple([one for one in _taking(notes) if one != note and one not in still])
+
+
+def _side_by_side(order, other):
+    """Tells the list of (first, behind, one, two): days of which each order tells by one stretch of its own."""
+    ends = [day for stretch in [*order.stretches, *other.stretches] for day in stretch[:2]]
+    cuts = sorted(set(ends))
+    return list(zip(cuts, cuts[1:], _told_from(order, cuts), _told_from(other, cuts)))
+
+
+def _told_from(order, cuts):
+    """Tells the list of the (holder, kind, rule, price) from each of the cuts on; None where nothing is told."""
+    starts = {stretch[0]: stretch for stretch in order.stretches}
+    told = []
+    stretch = None
+    for day in cuts:
+        if stretch is not None and stretch[1] == day:
+            stretch = None
+        stretch = starts.get(day, stretch)
+        told.append(None if stretch is None else stretch[2:])
+    return told
+
+
+def _paid(months, told, first, behind):
+    """Tells the list of what is paid on days of one month, told of by (holder, kind, rule, price) or by None."""
+    if told is None:
+        return [None] * (behind - first)
+    holder, kind, rule, price = told
+    least, more = months.pennies_more(price, first, behind)
+    # No two days of a month differ by more than a penny, so that two tuples do for all of them.
+    low = (holder, kind, least, rule)
+    high = (holder, kind, least + 1, rule)
+    return [high if is_more else low for is_more in more]
 
 
 def _owed(order):

@@ -56,6 +56,14 @@ class Months:
         start, stop = self.stretch_of(first, behind)
         return self.paid_ahead(pence, stop) - self.paid_ahead(pence, start)
 
+    def pennies_more(self, pence, first, behind):
+        """Tells (least, more): the least share that a day of one month has, and of which days it is a penny more."""
+        month, place = self.places[first]
+        length = self.lengths[month]
+        least, rest = divmod(pence, length)
+        # On these days the parts of the rest up to here pass a whole penny: so less than one part is left over.
+        return (least, [rest * at % length < rest for at in range(place + 1, place + 1 + behind - first)])
+
     def paid_ahead(self, pence, day):
         """Tells what all days ahead of a day come to; it may be the first one behind all days."""
         # Shares are differences of these sums, which alone are rounded: so no stretch of days loses anything.

@@ -33,14 +33,6 @@ class Order:
                 return (holder, kind, self.months.share(price, day), rule)
         return None
 
-    def paid_days(self):
-        """Tells the list of what paid_on tells of each day."""
-        told = [None] * len(self.months)
-        for first, behind, holder, kind, rule, price in self.stretches:
-            for day in range(first, behind):
-                told[day] = (holder, kind, self.months.share(price, day), rule)
-        return told
-
     def lines_of(self, first=0, behind=None):
         """Tells the list of lines (first, behind, holder, kind, rule, pence) of a stretch of days."""
         start, stop = self.months.stretch_of(first, behind)

@@ -1,5 +1,7 @@
 """What the tests share: things of every kind, and how a refusal is looked at."""
 
+import time
+
 from dayshares import errors
 from dayshares.months import Months
 from dayshares.orders import Order
@@ -94,3 +96,15 @@ def same(test, told, due):
     """Checks that what is told is just what is due, and each of its things of the same kind."""
     test.assertEqual(told, due)
     test.assertEqual(repr(told), repr(due))
+
+
+def soon(test, most, call):
+    """Checks that a call takes no longer than most seconds; tells its answer."""
+    took = []
+    # The least of several, since the machine may be busy with other things.
+    while len(took) < 7 and (not took or min(took) > most):
+        begun = time.perf_counter()
+        answer = call()
+        took.append(time.perf_counter() - begun)
+    test.assertLessEqual(min(took), most)
+    return answer

@@ -1,5 +1,7 @@
 """What plain things are: whole numbers, pence, names, rising rows."""
 
+from dayshares.errors import NoName
+
 # Twelve months of 31 days have 372 days, numbered from 0.
 LAST_DAY = 371
 
@@ -24,6 +26,12 @@ def is_name(thing):
     if not isinstance(thing, str) or not 1 <= len(thing) <= 8:
         return False
     return all(["a" <= sign <= "z" for sign in thing])
+
+
+def need_name(thing):
+    """Refuses what is no name."""
+    if not is_name(thing):
+        raise NoName("a name is a text of one to eight small letters")
 
 
 def is_tuple_of(thing, low, high):

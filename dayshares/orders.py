@@ -1,7 +1,7 @@
 """Orders: what is paid for each day, line by line."""
 
-from dayshares.checks import is_name, is_whole
-from dayshares.errors import NoKind, NoMonths, NoName, NoNotes, NoPrices
+from dayshares.checks import is_whole, need_name
+from dayshares.errors import NoKind, NoMonths, NoNotes, NoPrices
 from dayshares.months import Months
 from dayshares.notes import Standing, are_notes
 from dayshares.prices import Prices
@@ -47,8 +47,8 @@ class Order:
     def sum_of(self, first=0, behind=None, holder=None):
         """Tells what the lines of a stretch of days come to, a holder's or all."""
         lines = self.lines_of(first, behind)
-        if holder is not None and not is_name(holder):
-            raise NoName("a holder's name is a text of one to eight small letters")
+        if holder is not None:
+            need_name(holder)
         return sum([line[5] for line in lines if holder is None or line[2] == holder])
 
     def lines_hold(self, thing, first=0, behind=None):

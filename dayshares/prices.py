@@ -1,7 +1,7 @@
 """Prices of kinds by the month, and price notes that change them from a day on."""
 
-from dayshares.checks import LAST_DAY, is_name, is_pence, is_rising, is_tuple_of, is_within
-from dayshares.errors import NoDay, NoKind, NoName, NoPrices, TooMany
+from dayshares.checks import LAST_DAY, is_name, is_pence, is_rising, is_tuple_of, is_within, need_name
+from dayshares.errors import NoDay, NoKind, NoPrices, TooMany
 
 MOST_NOTES = 12
 
@@ -22,8 +22,7 @@ class Prices:
 
     def has_kind(self, kind):
         """Tells whether the name is one of the kinds."""
-        if not is_name(kind):
-            raise NoName("a name is a text of one to eight small letters")
+        need_name(kind)
         return kind in _names_of(self.kinds)
 
     def all_kinds(self):
@@ -138,21 +137,27 @@ def _names_of(kinds):
     return [row[0] for row in kinds]
 
 
-def _is_kind_row(thing):
+def is_kind_row(thing):
+    """Tells whether thing is (kind, pence, free)."""
     return is_tuple_of(thing, 3, 3) and is_name(thing[0]) and is_pence(thing[1]) and is_within(thing[2], 0, 31)
 
 
 def _are_kinds(thing):
-    if not is_tuple_of(thing, 1, 6) or not all([_is_kind_row(row) for row in thing]):
+    if not is_tuple_of(thing, 1, 6) or not all([is_kind_row(row) for row in thing]):
         return False
     # Where the rows rise and no two names are alike, the names alone rise.
     return is_rising(_names_of(thing))
 
 
-def _is_price_note(thing, names):
+def is_price_row(thing):
+    """Tells whether thing is (day, kind, pence, word), the kind any name."""
     if not is_tuple_of(thing, 4, 4) or not is_within(thing[0], 0, LAST_DAY):
         return False
-    return thing[1] in names and is_pence(thing[2]) and thing[3] in ("all", "new")
+    return is_name(thing[1]) and is_pence(thing[2]) and thing[3] in ("all", "new")
+
+
+def _is_price_note(thing, names):
+    return is_price_row(thing) and thing[1] in names
 
 
 def _are_price_notes(thing, names):

@@ -1,7 +1,9 @@
 """Ways from one kind to another by steps that cost fees, and marks that show what they come to."""
 
-from dayshares.checks import is_name, is_pence, is_rising, is_tuple_of, is_whole, is_within
-from dayshares.errors import NoName, NoSteps
+from heapq import heappop, heappush
+
+from dayshares.checks import is_name, is_pence, is_rising, is_tuple_of, is_whole, is_within, need_name
+from dayshares.errors import NoSteps
 
 MOST_STEPS = 20
 LONGEST_WAY = 60
@@ -9,8 +11,8 @@ LONGEST_WAY = 60
 
 def way_of(steps, kind, thing):
     """Tells (kind, pence), where the way ends and what it comes to, where thing is a way from the kind; or None."""
-    _need_steps(steps)
-    _need_name(kind)
+    need_steps(steps)
+    need_name(kind)
     if not is_tuple_of(thing, 0, LONGEST_WAY) or not all([is_within(at, 0, len(steps) - 1) for at in thing]):
         return None
     reached, pence = kind, 0
@@ -24,10 +26,10 @@ def way_of(steps, kind, thing):
 
 def cheapest_way(steps, kind, wished):
     """Tells (pence, way) of the cheapest way from the kind to the wished one; None where there is none."""
-    _need_steps(steps)
-    _need_name(kind)
-    _need_name(wished)
-    best = _best_ways(steps, kind)
+    need_steps(steps)
+    need_name(kind)
+    need_name(wished)
+    best = best_ways(steps, kind)
     if wished not in best:
         return None
     pence, _, way = best[wished]
@@ -36,8 +38,8 @@ def cheapest_way(steps, kind, wished):
 
 def marks_hold(steps, kind, thing):
     """Tells whether thing is marks of the steps and the kind."""
-    _need_steps(steps)
-    _need_name(kind)
+    need_steps(steps)
+    need_name(kind)
     if not isinstance(thing, dict) or not all([is_name(key) and is_whole(thing[key]) for key in thing]):
         return False
     if kind not in thing or thing[kind] != 0:
@@ -47,27 +49,33 @@ def marks_hold(steps, kind, thing):
 
 def marks_of(steps, kind):
     """Tells the marks in which each one is what the cheapest way comes to."""
-    _need_steps(steps)
-    _need_name(kind)
-    best = _best_ways(steps, kind)
+    need_steps(steps)
+    need_name(kind)
+    best = best_ways(steps, kind)
     return {name: best[name][0] for name in sorted(best)}
 
 
-def _best_ways(steps, kind):
+def need_steps(thing):
+    """Refuses what are no steps."""
+    if not _are_steps(thing):
+        raise NoSteps("steps are a rising tuple of none to twenty (one, other, fee)")
+
+
+def best_ways(steps, kind):
     """Tells the dict of the best (pence, how many steps, way) from the kind, by the kinds to which there is one."""
-    best = {kind: (0, 0, ())}
-    turned = True
-    # A way only gets longer by a step, so none that goes in a ring is ever better, and this comes to an end.
-    while turned:
-        turned = False
-        for at in range(len(steps)):
-            one, other, fee = steps[at]
-            if one in best:
-                pence, many, way = best[one]
-                longer = (pence + fee, many + 1, (*way, at))
-                if other not in best or longer < best[other]:
-                    best[other] = longer
-                    turned = True
+    leaving = {}
+    for at in range(len(steps)):
+        leaving.setdefault(steps[at][0], []).append(at)
+    best = {}
+    queue = [(0, 0, (), kind)]
+    # A way is never better with a step more, so that the first one that comes out to a kind is its best.
+    while len(queue) > 0:
+        pence, many, way, name = heappop(queue)
+        if name not in best:
+            best[name] = (pence, many, way)
+            for at in leaving.get(name, []):
+                one, other, fee = steps[at]
+                heappush(queue, (pence + fee, many + 1, (*way, at), other))
     return best
 
 
@@ -89,13 +97,3 @@ def _are_steps(thing):
         return False
     # Where the steps rise and no two have the same two names, these two alone rise.
     return is_rising([step[:2] for step in thing])
-
-
-def _need_steps(thing):
-    if not _are_steps(thing):
-        raise NoSteps("steps are a rising tuple of none to twenty (one, other, fee)")
-
-
-def _need_name(thing):
-    if not is_name(thing):
-        raise NoName("a name is a text of one to eight small letters")

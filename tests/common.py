@@ -3,9 +3,11 @@
 import time
 
 from dayshares import errors
+from dayshares.desk import Desk
 from dayshares.months import Months
 from dayshares.orders import Order
 from dayshares.prices import Prices
+from dayshares.roof import Roof
 from dayshares.sheets import Sheet
 
 FAMILIES = {
@@ -16,15 +18,22 @@ FAMILIES = {
 
 BIG = 10 ** 30 - 1
 
+# The names among all that anything gives.
+NAMES = ("a", "b", "basic", "abcdefgh", "all", "new", "none", "begins", "ends", "pauses", "back")
+
 
 def anything():
     """Things of every kind that point 0.2 tells, made anew."""
-    order = Order(Months((28,)), Prices((("a", 1, 0),)), ((0, "begins", "a", "a", 0),))
+    begins = (0, "begins", "a", "a", 0)
+    order = Order(Months((28,)), Prices((("a", 1, 0),)), (begins,))
+    roof, desk = Roof(Months((28,)), Prices((("a", 1, 0),))), Desk(Months((28,)), Prices((("a", 1, 0),)))
+    roof.tells("a", begins)
+    desk.say("tell a 0 begins a a 0")
     return [
         None, True, False,
         -BIG, -31, -1, 0, 1, 2, 5, 27, 28, 30, 31, 32, 60, 61, 371, 372, 400, 401, BIG,
         "", "a", "b", "basic", "abcdefgh", "abcdefghi", "A", "a1", "a b", " ", "\n", "~", "0", "28",
-        "all", "new", "begins", "ends", "pauses", "x" * 2000,
+        "all", "new", "none", "begins", "ends", "pauses", "0 ends", "a 1 0", "back", "x" * 2000,
         (), (0,), (28,), (True,), (None,), ("a",), (0, "ends"), ((0, "ends"),), ((28,),), ("a", 1, 0),
         (("a", 1, 0),), ((("a", 1, 0),),), (0, "a", 1, "all"), ((0, "a", 1, "all"),), (0,) * 200,
         [], [0], [28], [28, 31], ["a"], [0, "ends"], [(0, "ends")], ["a", 1, 0], [("a", 1, 0)],
@@ -32,7 +41,8 @@ def anything():
         {}, {0: 0}, {"a": 1}, {28: 28}, {(): []}, {0: (0, "ends")},
         Months((28,)), Months((31, 30)), Prices((("a", 1, 0),)), Prices((("a", 1, 0),), ((0, "a", 1, "all"),)),
         order, Order(Months((31, 30)), Prices((("a", 1, 0),))), Sheet((("a", order),), 0), (("a", order),),
-        [("a", order)], {"a": order}, errors.NoDay("a day"), errors.TooMany(13, 12),
+        [("a", order)], {"a": order}, roof, Roof(Months((31, 30)), Prices((("a", 1, 0),))), desk,
+        Desk(Months((31, 30)), Prices((("a", 1, 0),))), errors.NoDay("a day"), errors.TooMany(13, 12),
     ]
 
 
@@ -53,7 +63,7 @@ def pence(thing):
 
 def name(thing):
     """Tells whether thing is a name by point 3.1."""
-    return isinstance(thing, str) and thing in ("a", "b", "basic", "abcdefgh", "all", "new", "begins", "ends", "pauses")
+    return isinstance(thing, str) and thing in NAMES
 
 
 def wrong_things(right, *more):

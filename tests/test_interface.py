@@ -1,11 +1,14 @@
-"""The first part of the interface: where things are defined, and that they are handed in by place or by name."""
+"""The interface: where things are defined, and that they are handed in by place or by name."""
 
+import inspect
 import unittest
 
-from dayshares import late, months, notes, orders, prices, sheets, ways
+from dayshares import desk, late, months, notes, orders, plans, prices, roof, sheets, texts, ways
+from dayshares.desk import Desk
 from dayshares.months import Months
 from dayshares.orders import Order
 from dayshares.prices import Prices, first_parting
+from dayshares.roof import Roof
 from dayshares.sheets import Sheet
 from tests.common import same
 
@@ -19,13 +22,16 @@ class TestPlaces(unittest.TestCase):
         for module, names in (
                 (prices, ("first_parting",)), (notes, ("is_note", "are_notes", "fates", "day_of")),
                 (late, ("with_note", "without_note", "turned_by", "moved", "leaners", "free_notes", "struck_out")),
-                (ways, ("way_of", "cheapest_way", "marks_hold", "marks_of"))):
+                (ways, ("way_of", "cheapest_way", "marks_hold", "marks_of")),
+                (plans, ("plan_pence", "best_plan", "paper_shows", "paper_for")),
+                (texts, ("note_shown", "notes_shown", "note_read", "notes_read", "prices_read"))):
             for name in names:
                 told = getattr(module, name)
                 self.assertEqual((told.__module__, told.__name__), (module.__name__, name))
 
     def test_classes_are_defined_in_their_files(self):
-        for module, name in ((months, "Months"), (prices, "Prices"), (orders, "Order"), (sheets, "Sheet")):
+        for module, name in ((months, "Months"), (prices, "Prices"), (orders, "Order"), (sheets, "Sheet"),
+                             (roof, "Roof"), (desk, "Desk")):
             told = getattr(module, name)
             self.assertEqual((told.__module__, told.__name__), (module.__name__, name))
 
@@ -38,9 +44,38 @@ class TestPlaces(unittest.TestCase):
                 (Order, ("paid_on", "lines_of", "sum_of", "lines_hold", "months_of", "prices_of", "notes_of",
                          "__len__", "__eq__", "__repr__", "__str__")),
                 (Sheet, ("lines_now", "sums", "total", "known_by", "settled", "next_sheet",
-                         "__len__", "__eq__", "__repr__", "__str__"))):
+                         "__len__", "__eq__", "__repr__", "__str__")),
+                (Roof, ("tells", "strikes", "back", "names_now", "order_of", "owes", "moved_now",
+                        "__len__", "__eq__", "__repr__")),
+                (Desk, ("say", "__len__", "__eq__", "__repr__"))):
             for name in names:
                 self.assertIn(name, vars(told))
+
+    def test_arguments_are_those_of_the_interface(self):
+        for told, due in (
+                (Months, "(lengths)"), (Months.place_of, "(self, day)"), (Months.span_of, "(self, month)"),
+                (Months.share, "(self, pence, day)"), (Months.shares, "(self, pence, first=0, behind=None)"),
+                (Prices, "(kinds, notes=None)"), (Prices.has_kind, "(self, kind)"),
+                (Prices.with_price, "(self, note)"), (Prices.price_of, "(self, kind, day, begun=None, ran=None)"),
+                (first_parting, "(one, other, last=30)"), (notes.is_note, "(thing)"), (notes.are_notes, "(thing)"),
+                (notes.fates, "(notes)"), (notes.day_of, "(notes, day)"), (Order, "(months, prices, notes=None)"),
+                (Order.paid_on, "(self, day)"), (Order.lines_of, "(self, first=0, behind=None)"),
+                (Order.sum_of, "(self, first=0, behind=None, holder=None)"),
+                (Order.lines_hold, "(self, thing, first=0, behind=None)"), (Sheet, "(orders, month)"),
+                (Sheet.known_by, "(self, day)"), (Sheet.settled, "(self, other)"), (Sheet.next_sheet, "(self)"),
+                (late.with_note, "(order, note)"), (late.without_note, "(order, note)"),
+                (late.turned_by, "(order, other)"), (late.moved, "(order, other)"),
+                (late.leaners, "(order, note)"), (late.free_notes, "(order)"), (late.struck_out, "(order, note)"),
+                (ways.way_of, "(steps, kind, thing)"), (ways.cheapest_way, "(steps, kind, wished)"),
+                (ways.marks_hold, "(steps, kind, thing)"), (ways.marks_of, "(steps, kind)"),
+                (plans.plan_pence, "(steps, wishes, thing)"), (plans.best_plan, "(steps, wishes)"),
+                (plans.paper_shows, "(steps, wishes, thing)"), (plans.paper_for, "(steps, wishes)"),
+                (Roof, "(months, prices)"), (Roof.tells, "(self, name, note)"), (Roof.strikes, "(self, name, note)"),
+                (Roof.back, "(self)"), (Roof.order_of, "(self, name)"), (Roof.owes, "(self, holder, month=None)"),
+                (Roof.names_now, "(self)"), (Roof.moved_now, "(self)"), (texts.note_shown, "(note)"),
+                (texts.notes_shown, "(notes)"), (texts.note_read, "(text)"), (texts.notes_read, "(text)"),
+                (texts.prices_read, "(text)"), (Desk, "(months, prices)"), (Desk.say, "(self, line)")):
+            self.assertEqual(str(inspect.signature(told)), due, told)
 
 
 class TestByName(unittest.TestCase):
@@ -139,6 +174,47 @@ class TestByName(unittest.TestCase):
         same(self, ways.marks_hold(thing={"b": 0}, kind="b", steps=steps), False)
         self.assertEqual(ways.marks_of(steps=steps, kind="b"), {"b": 0, "c": 4})
         self.assertEqual(ways.marks_of(kind="c", steps=steps), {"c": 0})
+
+    def test_plans(self):
+        steps, wishes = (("a", "b", 3), ("b", "c", 4)), (("a", "b"), ("c", "b"))
+        same(self, plans.plan_pence(steps=steps, wishes=wishes, thing=(1, 0)), 7)
+        same(self, plans.plan_pence(thing=(0, 1), wishes=wishes, steps=steps), 7)
+        same(self, plans.best_plan(steps=steps, wishes=wishes), (7, (0, 1)))
+        same(self, plans.best_plan(wishes=wishes, steps=steps), (7, (0, 1)))
+        paper = plans.paper_for(steps=steps, wishes=wishes)
+        same(self, plans.paper_for(wishes=wishes, steps=steps), paper)
+        same(self, plans.paper_shows(steps=steps, wishes=wishes, thing=paper), 7)
+        same(self, plans.paper_shows(thing=paper, wishes=wishes, steps=steps), 7)
+
+    def test_roofs(self):
+        made = Roof(prices=Prices(KINDS), months=Months((28, 31)))
+        self.assertEqual(Roof(months=Months((28, 31)), prices=Prices(KINDS)), made)
+        self.assertEqual(Roof(Months((28, 31)), Prices(KINDS)), made)
+        same(self, made.tells(name="one", note=NOTES[0]), None)
+        same(self, made.tells(note=NOTES[1], name="one"), None)
+        self.assertEqual(made.order_of(name="one"), Order(Months((28, 31)), Prices(KINDS), NOTES))
+        same(self, made.owes(holder="ann"), made.order_of("one").sum_of())
+        same(self, made.owes(holder="ann", month=1), 620)
+        same(self, made.owes(month=0, holder="ann"), made.order_of("one").sum_of(0, 28))
+        same(self, made.owes("ann", None), made.owes("ann"))
+        same(self, made.owes("ann", month=None), made.owes("ann"))
+        same(self, made.strikes(name="one", note=NOTES[1]), None)
+        same(self, made.strikes(note=NOTES[0], name="one"), None)
+        same(self, len(made), 0)
+
+    def test_texts(self):
+        same(self, texts.note_shown(note=NOTES[0]), "1 begins a ann 0")
+        same(self, texts.notes_shown(notes=NOTES), "1 begins a ann 0\n4 changes b")
+        same(self, texts.note_read(text="4 changes b"), NOTES[1])
+        same(self, texts.notes_read(text="1 begins a ann 0\n4 changes b"), NOTES)
+        self.assertEqual(texts.prices_read(text="a 310 0\nb 620 2\n3 a 400 all"), Prices(KINDS, CHANGES))
+
+    def test_desks(self):
+        made = Desk(prices=Prices(KINDS), months=Months((28, 31)))
+        self.assertEqual(Desk(months=Months((28, 31)), prices=Prices(KINDS)), made)
+        self.assertEqual(Desk(Months((28, 31)), Prices(KINDS)), made)
+        same(self, made.say(line="tell one 1 begins a ann 0"), "ok")
+        same(self, made.say(line="names"), "one")
 
 
 if __name__ == "__main__":
